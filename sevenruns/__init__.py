@@ -1,0 +1,1 @@
+"""Sevenruns: which formulas can be told span by span without loss."""

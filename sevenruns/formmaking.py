@@ -1,0 +1,70 @@
+"""Forms made from terms that are known to be such: nothing is checked here."""
+
+from math import lcm
+
+from sevenruns.reckoning import NOUGHT, ONE, added, multiplied, negated, reduced
+
+
+def gathered(size, terms):
+    """The form of all terms, added; their bundles are in non-descending sequence."""
+    table = {}
+    for bundle, quotient in terms:
+        table[bundle] = added(table.get(bundle, NOUGHT), quotient)
+    return (size, tuple((bundle, table[bundle]) for bundle in sorted(table) if table[bundle] != NOUGHT))
+
+
+def number_form(size, quotient):
+    """The form that has this quotient as its value everywhere."""
+    return gathered(size, [((), quotient)])
+
+
+def place_form(size, which):
+    """The form that has the input which as its value."""
+    return (size, (((which,), ONE),))
+
+
+def form_sum(one, other):
+    """One plus other."""
+    return gathered(one[0], one[1] + other[1])
+
+
+def form_negated(form):
+    """The form with its sign changed."""
+    return (form[0], tuple((bundle, negated(quotient)) for bundle, quotient in form[1]))
+
+
+def form_multiple(form, quotient):
+    """The form times the quotient."""
+    if quotient == NOUGHT:
+        return (form[0], ())
+    return (form[0], tuple((bundle, multiplied(own, quotient)) for bundle, own in form[1]))
+
+
+def whole_terms(form):
+    """The least common bottom of the form's quotients, and the list of its terms times it."""
+    bottom = 1
+    for _, quotient in form[1]:
+        bottom = lcm(bottom, quotient[1])
+    return bottom, [(bundle, quotient[0] * (bottom // quotient[1])) for bundle, quotient in form[1]]
+
+
+def form_product(one, other):
+    """One times other, multiplied out."""
+    # Whole tops are added faster than quotients, and there may be many of them.
+    low, rows = whole_terms(one)
+    base, columns = whole_terms(other)
+    table = {}
+    for bundle, top in rows:
+        for beside, factor in columns:
+            joined = tuple(sorted(bundle + beside))
+            table[joined] = table.get(joined, 0) + top * factor
+    bottom = low * base
+    return (one[0], tuple((bundle, reduced(table[bundle], bottom)) for bundle in sorted(table) if table[bundle] != 0))
+
+
+def number_of(form):
+    """The form's number."""
+    for bundle, quotient in form[1]:
+        if bundle == ():
+            return quotient
+    return NOUGHT
