@@ -2,7 +2,7 @@
 
 from sevenruns.asking import ask, ask_input
 from sevenruns.errors import Bent
-from sevenruns.reckoning import NOUGHT
+from sevenruns.formmaking import quotient_at
 from sevenruns.things import is_bundle
 
 
@@ -26,14 +26,6 @@ def coefficient(form, bundle):
     """The quotient that belongs to the bundle, nought if the form does not have it."""
     ask(is_bundle(form[0], bundle), "bundle")
     return quotient_at(form, bundle)
-
-
-def quotient_at(form, bundle):
-    """The quotient of a bundle that is known to be one."""
-    for own, quotient in form[1]:
-        if own == bundle:
-            return quotient
-    return NOUGHT
 
 
 def bent_input(form):

@@ -58,13 +58,18 @@ def form_product(one, other):
         for beside, factor in columns:
             joined = tuple(sorted(bundle + beside))
             table[joined] = table.get(joined, 0) + top * factor
-    bottom = low * base
-    return (one[0], tuple((bundle, reduced(table[bundle], bottom)) for bundle in sorted(table) if table[bundle] != 0))
+    held = [bundle for bundle in sorted(table) if table[bundle] != 0]
+    return (one[0], tuple((bundle, reduced(table[bundle], low * base)) for bundle in held))
+
+
+def quotient_at(form, bundle):
+    """The quotient that belongs to the bundle, nought if the form does not have it."""
+    for own, quotient in form[1]:
+        if own == bundle:
+            return quotient
+    return NOUGHT
 
 
 def number_of(form):
     """The form's number."""
-    for bundle, quotient in form[1]:
-        if bundle == ():
-            return quotient
-    return NOUGHT
+    return quotient_at(form, ())

@@ -29,8 +29,13 @@ def form_at(form, which, quotient):
     for bundle, own in form[1]:
         for _ in range(bundle.count(which)):
             own = multiplied(own, quotient)
-        terms.append((tuple(entry for entry in bundle if entry != which), own))
+        terms.append((without(bundle, which), own))
     return gathered(form[0], terms)
+
+
+def without(bundle, which):
+    """The bundle without the input which, however often it stands there."""
+    return tuple(entry for entry in bundle if entry != which)
 
 
 def step_of(form, which):
@@ -50,5 +55,4 @@ def step_two(form, which, other):
 
 def step_by(form, which):
     """As step_of; nothing is checked."""
-    held = [(bundle, quotient) for bundle, quotient in form[1] if which in bundle]
-    return gathered(form[0], [(tuple(entry for entry in bundle if entry != which), own) for bundle, own in held])
+    return gathered(form[0], [(without(bundle, which), own) for bundle, own in form[1] if which in bundle])

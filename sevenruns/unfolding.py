@@ -39,7 +39,8 @@ def line_starts(program, counts):
     starts = [{} for _ in lines]
     starts[-1][0] = True
     for k in range(len(lines) - 1, -1, -1):
-        for start in sorted(starts[k]):
+        firsts = sorted(starts[k])
+        for start in firsts:
             for place, first in read_starts(lines[k], start, counts):
                 if place >= size:
                     starts[place - size][first] = True

@@ -1,0 +1,194 @@
+"""Each name of the interface stands in its file, takes its arguments by position and by name, and changes none of them."""
+
+import ast
+import importlib
+import inspect
+import unittest
+from copy import deepcopy
+from pathlib import Path
+
+from tests.samples import BENT, MIXING, PAIRS, Q0, Q1, Q2, SPREAD, TANK, THRICE, UNIT
+
+PACKAGE = Path(__file__).resolve().parent.parent / "sevenruns"
+THREE = (UNIT, UNIT, UNIT)
+POINT = (Q0, Q1, Q2)
+
+# Each function with arguments that it takes, in the order of its parameters.
+CALLS = {
+    "things": {
+        "is_integer": {"thing": 3}, "is_number": {"thing": 3}, "is_quotient": {"thing": Q1}, "is_span": {"thing": UNIT},
+        "is_lot": {"size": 2, "thing": (0, 1)}, "is_bundle": {"size": 2, "thing": (0, 0)},
+        "is_point": {"size": 1, "thing": (Q1,)}, "is_box": {"size": 1, "thing": (UNIT,)},
+    },
+    "quotients": {
+        "quotient_of": {"top": 6, "bottom": -4}, "plus": {"one": Q1, "other": Q2}, "minus": {"one": Q1, "other": Q2},
+        "times": {"one": Q1, "other": Q2}, "over": {"one": Q1, "other": Q2}, "less": {"one": Q1, "other": Q2},
+    },
+    "spans": {
+        "span_plus": {"one": UNIT, "other": (Q1, Q2)}, "span_minus": {"one": UNIT, "other": (Q1, Q2)},
+        "span_times": {"one": UNIT, "other": (Q1, Q2)}, "scaled_span": {"span": UNIT, "quotient": Q2},
+        "holds": {"span": UNIT, "quotient": Q2}, "span_within": {"span": UNIT, "other": (Q0, Q2)},
+        "spans_apart": {"one": UNIT, "other": (Q2, Q2)},
+    },
+    "boxes": {
+        "corners_of": {"box": THREE}, "wide_sides": {"box": THREE}, "in_box": {"box": THREE, "point": POINT},
+        "with_side": {"box": THREE, "which": 1, "span": (Q1, Q2)}, "point_box": {"point": POINT},
+    },
+    "programs": {
+        "is_program": {"thing": SPREAD}, "is_plain": {"program": SPREAD}, "breadth_of": {"program": SPREAD},
+        "degrees_of": {"program": SPREAD},
+    },
+    "programchecker": {"lets_program": {"thing": SPREAD}},
+    "runs": {"run_of": {"program": SPREAD, "point": POINT}, "run_lines": {"program": SPREAD, "point": POINT}},
+    "carrying": {"carried_of": {"program": SPREAD}, "numbers_of": {"program": SPREAD}, "counting_of": {"program": SPREAD}},
+    "unitthings": {
+        "is_name": {"thing": "a"}, "is_function": {"thing": TANK[1][0]}, "is_unit": {"thing": TANK},
+        "is_units": {"thing": (TANK,)}, "functions_of": {"units": (TANK,)}, "missing_in": {"units": (TANK,)},
+        "function_in": {"units": (TANK,), "unit": "tank", "function": "level"},
+        "calls_in": {"units": (TANK,), "unit": "tank", "function": "level"},
+    },
+    "plaintexts": {
+        "quotient_word": {"quotient": Q1}, "span_word": {"span": UNIT}, "box_line": {"box": THREE},
+        "program_line": {"program": SPREAD}, "read_quotient": {"text": "1"}, "read_box": {"text": "0:1"},
+        "read_program": {"text": "1; num 0"},
+    },
+    "unittexts": {"unit_text": {"unit": TANK}, "read_unit": {"text": "unit a\ndef b 0:1\nnum 0\ndone\nend"}},
+    "forms": {
+        "is_form": {"thing": PAIRS}, "bare_form": {"size": 2, "quotient": Q1}, "input_form": {"size": 2, "which": 1},
+        "form_plus": {"one": PAIRS, "other": PAIRS}, "form_minus": {"one": PAIRS, "other": (3, ())},
+        "form_times": {"one": PAIRS, "other": PAIRS}, "form_scaled": {"form": PAIRS, "quotient": Q2},
+    },
+    "formfacts": {
+        "hangs_on": {"form": BENT}, "degree_in": {"form": BENT, "which": 1}, "is_first": {"form": BENT},
+        "coefficient": {"form": BENT, "bundle": (0, 1, 1)},
+    },
+    "formruns": {
+        "value_of": {"form": PAIRS, "point": POINT}, "with_number": {"form": PAIRS, "which": 1, "quotient": Q2},
+        "step_of": {"form": PAIRS, "which": 1}, "step_two": {"form": PAIRS, "which": 1, "other": 2},
+    },
+    "expanding": {"form_of": {"program": MIXING}, "forms_of": {"program": MIXING}},
+    "linked": {
+        "linked_parts": {"form": PAIRS}, "part_of": {"form": PAIRS, "lot": (0, 1, 2)},
+        "factor_between": {"form": PAIRS, "other": PAIRS},
+    },
+    "corners": {
+        "corner_span": {"form": PAIRS, "box": THREE}, "corner_ends": {"form": PAIRS, "box": THREE},
+        "corner_counts": {"form": PAIRS, "box": THREE},
+    },
+    "bends": {
+        "bend_paper": {"form": BENT}, "lets_bend": {"program": (1, (("mul", 0, 0),)), "thing": ((Q1,), 0)},
+    },
+    "copies": {
+        "copies_of": {"program": SPREAD}, "written_line": {"program": SPREAD},
+        "run_copies": {"program": SPREAD, "numbers": (Q0, Q1, Q2, Q1)},
+        "copy_change": {"program": SPREAD, "point": POINT, "copy": 0},
+    },
+    "spreads": {"spread_of": {"program": SPREAD}},
+    "formtexts": {"form_line": {"form": PAIRS}, "read_form": {"text": "1: 0"}},
+    "tolds": {"told_spans": {"program": SPREAD, "box": THREE}, "told_span": {"program": SPREAD, "box": THREE}},
+    "trues": {
+        "true_span": {"program": SPREAD, "box": THREE}, "lost_on": {"program": SPREAD, "box": THREE},
+        "exact_on": {"program": SPREAD, "box": THREE},
+    },
+    "verdicts": {"fault_of": {"program": SPREAD}, "is_exact": {"program": SPREAD}},
+    "exactpapers": {"exact_paper": {"program": THRICE}},
+    "exactchecker": {"lets_exact": {"program": THRICE, "thing": ((3, (0, 1), (1, 3)),)}},
+}
+STARRED = {
+    "forms": {"form_from": ("size", "terms")},
+}
+CLASSES = {
+    "programclasses": {"Program": {"__init__": ("size", "lines"), "run": ("point",), "breadth": (), "then": ("line",),
+                                   "told": (), "__len__": (), "__eq__": ("other",)}},
+    "formclasses": {"Form": {"__init__": ("size", "terms"), "plus": ("other",), "times": ("other",), "at": ("point",),
+                             "hangs": (), "first": (), "told": (), "__eq__": ("other",)}},
+}
+ERRORS = ("LossError", "PaperError", "FormError", "UnitError", "LiveError", "TextError", "InvalidPaper", "NotUsable", "Bent",
+          "Knotted", "NotExact", "Missing", "Ringed", "Misfit", "Trapped", "Broken", "InvalidEvent", "NothingToUndo",
+          "InvalidText")
+
+
+def loaded(module):
+    return importlib.import_module("sevenruns." + module)
+
+
+def defined_in(module, kind):
+    """The nodes of this kind that stand in the file itself, by their names."""
+    tree = ast.parse((PACKAGE / (module + ".py")).read_text())
+    return {node.name: node for node in tree.body if isinstance(node, kind)}
+
+
+def result(function, /, *given, **named):
+    """What the call returns; of a generator, all that it gives."""
+    found = function(*given, **named)
+    return list(found) if inspect.isgenerator(found) else found
+
+
+class Interface(unittest.TestCase):
+    def test_functions_are_defined_in_their_files(self):
+        for table in (CALLS, STARRED):
+            for module, functions in table.items():
+                own = defined_in(module, ast.FunctionDef)
+                for name, given in functions.items():
+                    self.assertIn(name, own, module)
+                    parameters = inspect.signature(getattr(loaded(module), name)).parameters
+                    self.assertEqual(tuple(parameters), tuple(given), name)
+
+    def test_starred_parameters(self):
+        functions = [loaded("forms").form_from, loaded("programclasses").Program, loaded("formclasses").Form]
+        for function in functions:
+            kinds = [parameter.kind for parameter in inspect.signature(function).parameters.values()]
+            self.assertEqual(kinds, [inspect.Parameter.POSITIONAL_OR_KEYWORD, inspect.Parameter.VAR_POSITIONAL])
+
+    def test_classes_and_their_methods_are_defined_in_their_files(self):
+        for module, classes in CLASSES.items():
+            own = defined_in(module, ast.ClassDef)
+            for name, methods in classes.items():
+                body = {node.name: node for node in own[name].body if isinstance(node, ast.FunctionDef)}
+                for method, given in methods.items():
+                    self.assertIn(method, body)
+                    names = tuple(inspect.signature(getattr(getattr(loaded(module), name), method)).parameters)
+                    self.assertEqual(names[1:], given, method)
+
+    def test_errors_are_defined_in_their_file(self):
+        self.assertEqual(sorted(defined_in("errors", ast.ClassDef)), sorted(ERRORS))
+
+    def test_by_position_and_by_name(self):
+        for module, functions in CALLS.items():
+            for name, given in functions.items():
+                function = getattr(loaded(module), name)
+                by_position = result(function, *given.values())
+                by_name = result(function, **dict(reversed(list(given.items()))))
+                self.assertEqual(repr(by_position), repr(by_name), name)
+
+    def test_arguments_stay(self):
+        for module, functions in CALLS.items():
+            for name, given in functions.items():
+                before = deepcopy(given)
+                result(getattr(loaded(module), name), **given)
+                self.assertEqual(repr(given), repr(before), name)
+
+    def test_lists_that_are_refused_stay(self):
+        terms, box = [((0,), Q1)], [UNIT, UNIT, UNIT]
+        self.assertIs(loaded("forms").is_form((1, terms)), False)
+        self.assertIs(loaded("things").is_box(3, box), False)
+        self.assertEqual((terms, box), ([((0,), Q1)], [UNIT, UNIT, UNIT]))
+
+    def test_only_corners_of_is_a_generator(self):
+        for module, functions in CALLS.items():
+            for name in functions:
+                self.assertIs(inspect.isgeneratorfunction(getattr(loaded(module), name)), name == "corners_of", name)
+
+    def test_several_values_are_tuples_throughout(self):
+        for module, functions in CALLS.items():
+            for name, given in functions.items():
+                found = result(getattr(loaded(module), name), **given)
+                for value in found if name == "corners_of" else [found]:
+                    self.assertTrue(is_plain_value(value), name)
+
+
+def is_plain_value(value):
+    """True if value is None, a bool, an int, a string, or a tuple of such, in which True is not 1."""
+    if isinstance(value, tuple):
+        return value.__class__ is tuple and all(is_plain_value(entry) for entry in value)
+    return value is None or value.__class__ in (bool, int, str)
