@@ -31,11 +31,11 @@ def read_form(text):
         return (size, ())
     terms = []
     at = 1
-    # A plus sign promises one more term, as the colon does.
-    while at == 1 or at < len(fields):
+    while at < len(fields):
         term, at = read_term(fields, at, size, terms)
         terms.append(term)
         at += 1
+    # A plus sign promises one more term, as the colon does; without one, at is behind the end.
     if at == len(fields):
         raise InvalidText(0, at)
     return (size, tuple(terms))
@@ -43,8 +43,6 @@ def read_form(text):
 
 def read_term(fields, at, size, terms):
     """The term that begins with field at, behind these terms, and the field behind it."""
-    if at == len(fields):
-        raise InvalidText(0, at)
     quotient = quotient_in(fields[at])
     if quotient is None or quotient == NOUGHT:
         raise InvalidText(0, at)

@@ -127,7 +127,7 @@ def entry_word(fields, at, last):
 def place_field(fields, at, many, last):
     """The place below many that the field tells."""
     place = number_in(entry_word(fields, at, last))
-    if place is None or not is_input(many, place):
+    if not is_input(many, place):
         raise InvalidText(0, at)
     return place
 

@@ -48,10 +48,12 @@ class Walk:
 
     def rows_at(self, k):
         """The list of the pairs (lot, factor) of the linked parts that both reads of line k share."""
-        if self.lines[k][0] == "mul" or not self.shared(k):
+        shared = self.shared(k)
+        # A mul or num without a fault shares nothing.
+        if not shared:
             return []
         one, other = self.read_forms(k)
-        lots = sorted({part_with(one, which) for which in self.shared(k)})
+        lots = sorted({part_with(one, which) for which in shared})
         return [(lot, shared_factor(one, other, lot)) for lot in lots]
 
     def go_past(self, k):
@@ -65,16 +67,14 @@ class Walk:
 
 
 def part_with(form, which):
-    """The linked part with the input which, None if the form does not hang on it."""
+    """The linked part with the input which, () if the form does not hang on it."""
     for lot in parts_in(form):
         if which in lot:
             return lot
-    return None
+    return ()
 
 
 def shared_factor(one, other, lot):
     """The factor above nought between the parts lot of both forms, None if there is none."""
-    if lot is None:
-        return None
     factor = factor_of(part_form(one, lot), part_form(other, lot))
     return factor if factor is not None and is_less(NOUGHT, factor) else None

@@ -69,6 +69,7 @@ class ExactChecker(unittest.TestCase):
         # A linked part of one read alone.
         self.refused((2, (("add", 0, 1),)), ((0, (0,), Q1),), "lot", 0)
         self.refused((2, (("add", 0, 1), ("add", 2, 0))), ((1, (0,), Q1), (1, (1,), Q1)), "lot", 1)
+        self.refused((2, (("add", 0, 1), ("add", 0, 2))), ((1, (0,), Q1), (1, (1,), Q1)), "lot", 1)
         self.refused(SPREAD, ((2, (0,), Q1),), "lot", 0)
 
     def test_factor(self):

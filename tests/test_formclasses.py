@@ -19,6 +19,7 @@ class Forms(unittest.TestCase):
         self.assertIs(form.first(), True)
         self.assertIs(Form(*BENT[:1], *BENT[1]).first(), False)
         self.assertEqual(Form(3).told(), (3, ()))
+        self.assertEqual(Form(1, ((0,), Q1)).told(), (1, (((0,), Q1),)))
         self.assertEqual(Form(3).hangs(), ())
 
     def test_new_forms(self):

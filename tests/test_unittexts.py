@@ -39,6 +39,13 @@ class UnitTexts(unittest.TestCase):
             self.assertEqual(read_unit(unit_text(unit)), unit)
             self.assertEqual(unit_text(read_unit(text=unit_text(unit))), unit_text(unit))
 
+    def test_each_line_behind_each(self):
+        lines = (("num", Q0), ("add", 0, 0), ("sub", 0, 0), ("mul", 0, 0), ("call", "a", "b", (0,)))
+        for one in lines:
+            for other in lines:
+                unit = ("a", (("b", (UNIT,), (one, other), ()),))
+                self.assertEqual(read_unit(unit_text(unit)), unit)
+
     def test_great_numbers(self):
         great = 10 ** 900
         unit = ("a", (("a", (((-great, 1), (1, great)),), (("num", (great, great + 1)),), ()),))
@@ -74,7 +81,7 @@ class UnitTexts(unittest.TestCase):
         for row, field in (("num", 1), ("num x", 1), ("num 2/4", 1), ("num 1 1", 2), ("num 01 1", 1), ("num -0", 1),
                            ("add", 1), ("add 0", 2), ("add 0 ", 2), ("add 00 0", 1), ("add x", 1), ("sub 0 0 0", 3),
                            ("sub 0 -1", 2), ("mul 0 x 0", 2), ("mul 5 x", 2), ("add 1 0", 0), ("add 0 1", 0),
-                           ("add 99 99 9", 3), ("sub 0 1/2", 2), ("add +0 0", 1)):
+                           ("sub 1 0", 0), ("sub 0 1", 0), ("mul 1 0", 0), ("mul 0 1", 0), ("add 99 99 9", 3), ("sub 0 1/2", 2), ("add +0 0", 1)):
             self.in_row(2, row, field)
 
     def test_calls(self):

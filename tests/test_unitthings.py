@@ -54,7 +54,7 @@ class UnitThings(unittest.TestCase):
         wrong = (("mix", (0,), (Q0, Q1)), ("call", "a", "b", ()), ("call", "a", "b", (2,)), ("call", "a", "b", [0]),
                  ("call", "a", "b", (True,)), ("call", "a", "b", 0), ("call", "a", "b"), ("call", "a", "b", (0,), 0),
                  ("call", "", "b", (0,)), ("call", "a", "B", (0,)), ("call", None, "b", (0,)), ["call", "a", "b", (0,)],
-                 ("call", "a", "b", (-1,)), ("add", 0, 2), ("num", 1), ("add", 0), (), None, "call", ("call",))
+                 ("walk", "a", "b", (0,)), ("num", "a", "b", (0,)), (None, "a", "b", (0,)), ("call", "a", "b", (-1,)), ("add", 0, 2), ("num", 1), ("add", 0), (), None, "call", ("call",))
         self.check(is_function, [with_entry(keepless, 2, (line,)) for line in right],
                    [with_entry(keepless, 2, (line,)) for line in wrong])
         # Behind a line there is one place more.

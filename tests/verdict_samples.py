@@ -56,6 +56,9 @@ FAULTY = (
     ((2, (("mul", 1, 1), ("sub", 0, 0))), ("sum", 1, 0)),
     # Parts of one lot that are no multiples: x0 + x0 x1 beside x0 x1; x0 + x1 + x0 x1 beside x0 + 2 x1 + x0 x1.
     ((2, (("mul", 0, 1), ("add", 2, 0))), ("sum", 1, 0)),
+    # x1 beside x1 (1 + x0): the terms of x1 alone are alike, but not the parts.
+    ((2, (("num", Q1), ("add", 0, 2), ("mul", 3, 1), ("add", 1, 4))), ("sum", 3, 1)),
+    ((2, (("num", Q1), ("add", 0, 2), ("mul", 3, 1), ("add", 4, 1))), ("sum", 3, 1)),
     # Of two parts the second one has another sign: (x0 + x1) + (x0 - x1).
     ((2, (("add", 0, 1), ("sub", 0, 1), ("add", 2, 3))), ("sum", 2, 1)),
     ((2, (("add", 0, 1), ("sub", 0, 1), ("sub", 2, 3))), ("sum", 2, 0)),
