@@ -31,6 +31,11 @@ def with_side(box, which, span):
     """The box with span as its side which, all else as in box."""
     ask_input(len(box), which)
     ask(is_span(span), "span")
+    return side_put(box, which, span)
+
+
+def side_put(box, which, span):
+    """As with_side; nothing is checked."""
     return box[:which] + (span,) + box[which + 1:]
 
 

@@ -2,7 +2,7 @@
 
 from math import lcm
 
-from sevenruns.reckoning import NOUGHT, ONE, added, multiplied, negated, reduced
+from sevenruns.reckoning import NOUGHT, ONE, added, divided, multiplied, negated, reduced
 
 
 def gathered(size, terms):
@@ -73,3 +73,25 @@ def quotient_at(form, bundle):
 def number_of(form):
     """The form's number."""
     return quotient_at(form, ())
+
+
+def without_number(form):
+    """The form less its number."""
+    return (form[0], tuple(term for term in form[1] if term[0] != ()))
+
+
+def form_difference(one, other):
+    """One less other."""
+    return form_sum(one, form_negated(other))
+
+
+def ratio_of(one, other):
+    """The quotient c such that one is c times other; None without one, or if one of the two is nought."""
+    mine, yours = one[1], other[1]
+    if not mine or [bundle for bundle, _ in mine] != [bundle for bundle, _ in yours]:
+        return None
+    ratio = divided(mine[0][1], yours[0][1])
+    for (_, own), (_, beside) in zip(mine, yours):
+        if own != multiplied(ratio, beside):
+            return None
+    return ratio

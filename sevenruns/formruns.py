@@ -3,7 +3,7 @@
 from sevenruns.asking import ask, ask_input, ask_point, ask_quotient
 from sevenruns.formfacts import ask_first
 from sevenruns.formmaking import gathered, number_of
-from sevenruns.reckoning import multiplied
+from sevenruns.reckoning import NOUGHT, ONE, added, multiplied
 from sevenruns.things import is_input
 
 
@@ -56,3 +56,26 @@ def step_two(form, which, other):
 def step_by(form, which):
     """As step_of; nothing is checked."""
     return gathered(form[0], [(without(bundle, which), own) for bundle, own in form[1] if which in bundle])
+
+
+def standing_point(size, forms, free):
+    """A point of numbers, nought at the inputs in free, such that no form is nought with the others in their places.
+
+    No form is nought as it is; each number is the least one, one input after the other."""
+    point = []
+    for which in range(size):
+        number = NOUGHT
+        if which not in free:
+            number = standing_number(forms, which)
+            forms = [form_at(form, which, number) for form in forms]
+        point.append(number)
+    return tuple(point)
+
+
+def standing_number(forms, which):
+    """The least number with which, in the place of which, none of the forms is nought."""
+    number = NOUGHT
+    # A form becomes nought for no more numbers than its degree in which.
+    while any([form_at(form, which, number)[1] == () for form in forms]):
+        number = added(number, ONE)
+    return number

@@ -21,16 +21,20 @@ def term_words(bundle, quotient):
 def read_form(text):
     """The form that has this line; InvalidText(0, field) if none has."""
     ask_text(text)
-    fields = text.split(" ")
-    size = number_in(fields[0].removesuffix(":"))
-    if not fields[0].endswith(":") or size is None or size < 1:
-        raise InvalidText(0, 0)
-    if len(fields) >= 2 and fields[1] == "0":
-        if len(fields) > 2:
-            raise InvalidText(0, 2)
+    return form_in(text.split(" "), 0)
+
+
+def form_in(fields, start):
+    """The form that the fields from start on tell; InvalidText(0, field) if they tell none."""
+    at = start + 1
+    size = number_in(fields[start].removesuffix(":")) if start < len(fields) else None
+    if size is None or size < 1 or not fields[start].endswith(":"):
+        raise InvalidText(0, start)
+    if at < len(fields) and fields[at] == "0":
+        if at + 1 < len(fields):
+            raise InvalidText(0, at + 1)
         return (size, ())
     terms = []
-    at = 1
     while at < len(fields):
         term, at = read_term(fields, at, size, terms)
         terms.append(term)

@@ -1,6 +1,6 @@
 """Lines of programs: what keeps any value from being one, and what a line reads."""
 
-from sevenruns.things import are_inputs, is_input, is_integer, is_pair, is_quotient
+from sevenruns.things import are_inputs, has_word, is_input, is_integer, is_pair, is_quotient
 
 LENGTHS = {"num": 2, "add": 3, "sub": 3, "mul": 3, "mix": 3}
 MOST_READS = 8
@@ -8,10 +8,7 @@ MOST_READS = 8
 
 def has_line_shape(line):
     """True if line begins with a line's word and is as long as a line with it."""
-    if not isinstance(line, tuple) or len(line) == 0:
-        return False
-    word = line[0]
-    return isinstance(word, str) and word in LENGTHS and len(line) == LENGTHS[word]
+    return has_word(line) and line[0] in LENGTHS and len(line) == LENGTHS[line[0]]
 
 
 def mix_fault(reads, numbers, many):

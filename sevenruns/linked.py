@@ -2,8 +2,8 @@
 
 from sevenruns.asking import ask
 from sevenruns.formfacts import ask_first, hangs_on
+from sevenruns.formmaking import ratio_of, without_number
 from sevenruns.forms import is_other_form
-from sevenruns.reckoning import divided, multiplied
 from sevenruns.things import is_lot
 
 
@@ -48,12 +48,4 @@ def part_form(form, lot):
 
 def factor_of(form, other):
     """As factor_between; nothing is checked."""
-    mine = [term for term in form[1] if term[0] != ()]
-    yours = [term for term in other[1] if term[0] != ()]
-    if not mine or [bundle for bundle, _ in mine] != [bundle for bundle, _ in yours]:
-        return None
-    factor = divided(mine[0][1], yours[0][1])
-    for (_, own), (_, beside) in zip(mine, yours):
-        if own != multiplied(factor, beside):
-            return None
-    return factor
+    return ratio_of(without_number(form), without_number(other))

@@ -18,6 +18,11 @@ def is_pair(thing):
     return isinstance(thing, tuple) and len(thing) == 2
 
 
+def has_word(thing):
+    """True if thing is a tuple that begins with a string."""
+    return isinstance(thing, tuple) and len(thing) >= 1 and isinstance(thing[0], str)
+
+
 def is_quotient(thing):
     """True if thing is a quotient in lowest terms, its bottom at least 1."""
     if not is_pair(thing):
