@@ -7,11 +7,14 @@ import unittest
 from copy import deepcopy
 from pathlib import Path
 
+from tests.kind_samples import PAIRS_KIND, TIGHT_KIND
 from tests.samples import BENT, MIXING, PAIRS, Q0, Q1, Q2, SPREAD, TANK, THRICE, UNIT
 
 PACKAGE = Path(__file__).resolve().parent.parent / "sevenruns"
 THREE = (UNIT, UNIT, UNIT)
 POINT = (Q0, Q1, Q2)
+SEVEN = (Q0, (-1, 1), Q2, Q0, Q1, (-2, 1), (3, 1))
+THRICE_AVERAGE = (((0, 1), (((0, 1), (1, 4)), ((2, 3), (3, 4)))),)
 
 # Each function with arguments that it takes, in the order of its parameters.
 CALLS = {
@@ -93,6 +96,67 @@ CALLS = {
     "verdicts": {"fault_of": {"program": SPREAD}, "is_exact": {"program": SPREAD}},
     "exactpapers": {"exact_paper": {"program": THRICE}},
     "exactchecker": {"lets_exact": {"program": THRICE, "thing": ((3, (0, 1), (1, 3)),)}},
+    "losspapers": {"loss_paper": {"program": SPREAD}, "whole_box": {"program": SPREAD}},
+    "losschecker": {"lets_loss": {"program": SPREAD, "thing": ("box", (((-1, 1), Q1), (Q1, Q1), ((-1, 1), (-1, 1))))}},
+    "shares": {"shares_of": {"program": THRICE}},
+    "averages": {
+        "average_paper": {"program": THRICE}, "is_average": {"program": THRICE},
+        "lets_average": {"program": THRICE, "thing": THRICE_AVERAGE}, "average_form": {"program": THRICE, "thing": THRICE_AVERAGE},
+    },
+    "crosses": {
+        "cross_at": {"program": MIXING, "point": POINT, "three": (0, 1, 2)}, "alike_cross": {"form": PAIRS, "three": (0, 1, 2)},
+        "crossed": {"form": PAIRS},
+    },
+    "clans": {
+        "is_clan": {"form": PAIRS, "lot": (0, 1)}, "least_clan": {"form": PAIRS, "lot": (0, 1)}, "clans_of": {"form": PAIRS},
+        "strong_clans": {"form": PAIRS},
+    },
+    "kindmaking": {"kind_of": {"form": PAIRS}},
+    "kindthings": {
+        "is_kind": {"thing": TIGHT_KIND}, "lot_of": {"kind": TIGHT_KIND}, "value_by": {"kind": TIGHT_KIND, "point": POINT},
+    },
+    "kindchecker": {"lets_kind": {"thing": TIGHT_KIND}},
+    "kindforms": {"form_by": {"kind": TIGHT_KIND, "size": 3}},
+    "nodes": {
+        "nodes_of": {"kind": TIGHT_KIND}, "knots_of": {"kind": PAIRS_KIND}, "breadth_by": {"kind": PAIRS_KIND},
+        "case_by": {"kind": TIGHT_KIND},
+    },
+    "sevens": {
+        "seven_bars": {"results": SEVEN}, "six_bars": {"results": SEVEN[1:]}, "free_program": {"results": SEVEN},
+        "seven_paper": {"form": PAIRS},
+    },
+    "runcheckers": {
+        "lets_seven": {"program": MIXING, "thing": ((Q0, Q0, Q2), (0, 1, 2))},
+        "lets_six": {"program": MIXING, "thing": ((Q0, (1, 2), (-1, 2)), (0, 1, 2))},
+    },
+    "grids": {"runs_at": {"program": MIXING, "point": POINT, "lot": (0, 2)}, "grid_paper": {"form": PAIRS}},
+    "gridchecker": {"lets_grid": {"program": MIXING, "thing": ((Q0, Q0, Q2), (0, 1, 2))}},
+    "shapes": {
+        "is_shape": {"kind": TIGHT_KIND, "thing": (0, (1, 2))}, "shape_count": {"kind": TIGHT_KIND},
+        "shape_at": {"kind": TIGHT_KIND, "number": 0}, "shape_number": {"kind": TIGHT_KIND, "shape": (0, (1, 2))},
+    },
+    "building": {
+        "program_by": {"kind": TIGHT_KIND, "size": 3, "shape": (0, (1, 2))}, "program_of": {"kind": PAIRS_KIND, "size": 3},
+        "plain_of": {"kind": TIGHT_KIND, "size": 4},
+    },
+    "kindtexts": {"kind_line": {"kind": TIGHT_KIND}, "read_kind": {"text": "first 0 1 sum 2 1 in 0 1 in 1"}},
+    "kindspans": {"span_by": {"kind": TIGHT_KIND, "box": THREE}, "node_spans": {"kind": TIGHT_KIND, "box": THREE}},
+    "kindends": {"ends_by": {"kind": TIGHT_KIND, "box": THREE}, "counts_by": {"kind": TIGHT_KIND, "box": THREE}},
+    "reaching": {"point_with": {"kind": TIGHT_KIND, "box": THREE, "quotient": (1, 2)}},
+    "judging": {
+        "is_check": {"thing": ("is", Q1)}, "check_holds": {"check": ("is", Q1), "quotient": Q1},
+        "judged": {"kind": TIGHT_KIND, "box": THREE, "check": ("is", Q1)},
+    },
+    "showing": {
+        "shown": {"kind": TIGHT_KIND, "box": THREE, "check": ("is", Q1)},
+        "lets_shown": {"program": SPREAD, "box": THREE, "check": ("is", Q0), "thing": ((Q0, Q0, Q0), (Q1, Q1, Q1))},
+    },
+    "budgets": {
+        "budget_far": {"kind": TIGHT_KIND, "box": THREE, "which": 0, "span": (Q0, Q2)},
+        "budget_near": {"kind": TIGHT_KIND, "box": THREE, "which": 0, "span": ((-2, 1), Q2)},
+    },
+    "pieces": {"pieces_of": {"kind": TIGHT_KIND, "box": THREE, "which": 0}},
+    "letters": {"letters_of": {"kind": TIGHT_KIND, "lot": (1, 5)}},
 }
 STARRED = {
     "forms": {"form_from": ("size", "terms")},
@@ -102,6 +166,12 @@ CLASSES = {
                                    "told": (), "__len__": (), "__eq__": ("other",)}},
     "formclasses": {"Form": {"__init__": ("size", "terms"), "plus": ("other",), "times": ("other",), "at": ("point",),
                              "hangs": (), "first": (), "told": (), "__eq__": ("other",)}},
+    "judgeclasses": {"Judge": {"__init__": ("program",), "told": ("box",), "true": ("box",), "lost": ("box",), "exact": (),
+                               "fault": (), "paper": (), "__eq__": ("other",)}},
+    "kindclasses": {"Kind": {"__init__": ("form",), "told": (), "case": (), "breadth": (), "clans": (), "at": ("point",),
+                             "line": (), "__eq__": ("other",)}},
+    "reachclasses": {"Reach": {"__init__": ("kind", "box"), "span": (), "ends": (), "counts": (), "judged": ("check",),
+                               "budget": ("which", "span"), "with_side": ("which", "span"), "__eq__": ("other",)}},
 }
 ERRORS = ("LossError", "PaperError", "FormError", "UnitError", "LiveError", "TextError", "InvalidPaper", "NotUsable", "Bent",
           "Knotted", "NotExact", "Missing", "Ringed", "Misfit", "Trapped", "Broken", "InvalidEvent", "NothingToUndo",
