@@ -36,17 +36,22 @@ def bending_number(form, which, beside):
 
 def lets_bend(program, thing):
     """The result at the point and that two up in which, added, less twice that one up."""
-    if not is_pair(thing):
-        raise InvalidPaper("shape", -1)
-    point, which = thing
-    if not is_point(program[0], point):
-        raise InvalidPaper("point", -1)
+    point, which = point_paper(program, thing)
     if not is_input(program[0], which):
         raise InvalidPaper("which", -1)
     bend = bend_of([run_of(program, three) for three in steps_up(point, which)])
     if bend == NOUGHT:
         raise InvalidPaper("straight", -1)
     return bend
+
+
+def point_paper(program, thing):
+    """The pair thing, its first value a point for the program; InvalidPaper for what is none."""
+    if not is_pair(thing):
+        raise InvalidPaper("shape", -1)
+    if not is_point(program[0], thing[0]):
+        raise InvalidPaper("point", -1)
+    return thing
 
 
 def bend_of(results):

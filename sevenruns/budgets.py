@@ -120,16 +120,17 @@ def lowest_lines(lines):
 def highest_lines(lines):
     """The lines that are the highest ones somewhere, their slopes ascending."""
     bottom = 1
-    for line in lines:
-        bottom = lcm(bottom, line[0][1], line[1][1])
+    for slope, number in lines:
+        bottom = lcm(bottom, slope[1], number[1])
     found = []
-    for line in sorted([tuple(part[0] * (bottom // part[1]) for part in line) for line in lines]):
+    rows = [(slope[0] * (bottom // slope[1]), number[0] * (bottom // number[1])) for slope, number in lines]
+    for line in sorted(rows):
         if found and found[-1][0] == line[0]:
             found.pop()
         while len(found) >= 2 and is_covered(found[-2], found[-1], line):
             found.pop()
         found.append(line)
-    return [(reduced(slope, bottom), reduced(number, bottom)) for slope, number in found]
+    return [(reduced(rise, bottom), reduced(base, bottom)) for rise, base in found]
 
 
 def is_covered(one, middle, other):

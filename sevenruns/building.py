@@ -3,7 +3,6 @@
 from sevenruns.asking import ask
 from sevenruns.errors import Knotted
 from sevenruns.kindforms import ask_size
-from sevenruns.kindthings import ask_first_kind
 from sevenruns.nodes import knots_of
 from sevenruns.reckoning import NOUGHT, ONE
 from sevenruns.shapes import is_shape, shape_at, son_with
@@ -20,7 +19,6 @@ def program_by(kind, size, shape):
 def program_of(kind, size):
     """An exact program of this size with the kind's value."""
     ask_size(kind, size)
-    ask_first_kind(kind)
     if kind[0] == "bare":
         return (size, (("num", kind[1]),))
     return made_program(kind, size, shape_at(kind, 0))

@@ -1,19 +1,16 @@
 """The checker of papers of runs one up in each of some inputs and in each two of them."""
 
+from sevenruns.bends import point_paper
 from sevenruns.crosses import grid_results, pairs_in, steps_told
 from sevenruns.errors import InvalidPaper
 from sevenruns.grids import lots_between
 from sevenruns.reckoning import multiplied
-from sevenruns.things import is_lot, is_pair, is_point
+from sevenruns.things import is_lot
 
 
 def lets_grid(program, thing):
     """How many inputs the lot of the paper thing has; InvalidPaper for runs that let a program of less breadth."""
-    if not is_pair(thing):
-        raise InvalidPaper("shape", -1)
-    point, lot = thing
-    if not is_point(program[0], point):
-        raise InvalidPaper("point", -1)
+    point, lot = point_paper(program, thing)
     if not is_lot(program[0], lot) or not 3 <= len(lot) <= 8:
         raise InvalidPaper("lot", -1)
     if tell_clan(grid_results(program, point, lot), len(lot)):

@@ -2,7 +2,6 @@
 
 from sevenruns.asking import ask, ask_point
 from sevenruns.crosses import crossing, grid_results, pairs_in
-from sevenruns.formfacts import ask_first
 from sevenruns.formmaking import form_difference
 from sevenruns.formruns import standing_point
 from sevenruns.kindmaking import kind_of
@@ -19,7 +18,6 @@ def runs_at(program, point, lot):
 
 def grid_paper(form):
     """None if the form's kind has no knot, else a pair (point, lot) that lets_grid accepts."""
-    ask_first(form)
     knots = [sons for word, _, sons in nodes_of(kind_of(form)) if word == "knot"]
     if not knots:
         return None

@@ -2,17 +2,17 @@
 
 from sevenruns.asking import ask, ask_quotient
 from sevenruns.kindspans import span_by
-from sevenruns.kindthings import ask_first_kind, ask_kind_box
+from sevenruns.kindthings import ask_kind_box
 from sevenruns.reckoning import is_less
 from sevenruns.spans import holds, spans_apart
-from sevenruns.things import has_word, is_pair, is_quotient, is_span
+from sevenruns.things import is_pair, is_quotient, is_span
 
 QUOTIENT_WORDS = ("below", "above", "is")
 
 
 def is_check(thing):
     """True if thing, any value, is a check, else False."""
-    if not is_pair(thing) or not has_word(thing):
+    if not is_pair(thing):
         return False
     if thing[0] == "inside":
         return is_span(thing[1])
@@ -37,10 +37,9 @@ def judged(kind, box, check):
 
 
 def ask_judged(kind, box, check):
-    """Refuses box, then check, then a bent kind."""
+    """Refuses box, then check."""
     ask_kind_box(kind, box)
     ask(is_check(check), "check")
-    ask_first_kind(kind)
 
 
 def word_of(check, span):

@@ -60,7 +60,7 @@ def read_kind(text):
     if fields[0] not in KIND_FIELDS:
         raise InvalidText(0, 0)
     kind = ("bent", form_in(fields, 1)) if fields[0] == "bent" else KindReader(read_values(fields)).kind()
-    if kind is None or not is_kind(kind):
+    if not is_kind(kind):
         raise InvalidText(0, 0)
     return kind
 

@@ -1,6 +1,6 @@
 """Papers that show that a plain program loses something on some box."""
 
-from sevenruns.asking import ask, ask_plain
+from sevenruns.asking import ask
 from sevenruns.bends import bend_paper
 from sevenruns.boxes import point_box, with_side
 from sevenruns.carrying import counting_lines, place_loads
@@ -18,7 +18,6 @@ UNIT = ((0, 1), (1, 1))
 
 def loss_paper(program):
     """None if the program is exact, else a paper that lets_loss accepts."""
-    ask_plain(program)
     fault = fault_of(program)
     if fault is None:
         return None
@@ -34,7 +33,6 @@ def loss_paper(program):
 
 def whole_box(program):
     """None if the program is exact, else a box of whole ends, at most two sides wide, on which it is not."""
-    ask_plain(program)
     fault = fault_of(program)
     if fault is None:
         return None
@@ -172,15 +170,14 @@ def slopes_at(form, point, which, beside):
 
 
 def opposing_number(slopes, whole):
-    """A number for beside at which one step by which is above nought, the other one below; None if none is whole."""
+    """A number for beside at which one step by which is above nought, the other one below.
+
+    If it has to be whole, None where there may be none: where both steps go the same way."""
     (level, _, rise), (other, _, climb) = slopes
     turns = [divided(negated(base), slope) for base, slope in ((level, rise), (other, climb)) if slope != NOUGHT]
     low, high = span_over(turns)
     if is_less(NOUGHT, multiplied(rise, climb)):
         # Both go the same way, so they are opposed between their turns alone.
-        above = (floor_of(low) + 1, 1)
-        if is_less(above, high):
-            return above
         return None if whole else divided(added(low, high), (2, 1))
     number = (floor_of(high) + 1, 1)
     worths = [added(base, multiplied(slope, number)) for base, slope in ((level, rise), (other, climb))]
@@ -190,10 +187,11 @@ def opposing_number(slopes, whole):
 
 
 def crossing_sides(slopes):
-    """Whole sides for which and beside if both steps go the same way and turn between two neighbouring numbers.
+    """Whole sides for which and beside if both steps go the same way.
 
-    With the side of which wide and well placed, the form whose step turns first has one
-    of its ends at both far ends, and the other form has not: no corner has both ends."""
+    The side of beside goes up from the first turn. With the side of which wide and well
+    placed, the form whose step turns first has one of its ends at both far ends alone, and
+    the other form has not: no corner has both ends."""
     turns = [divided(negated(base), rise) for base, _, rise in slopes]
     centres = [divided(negated(base), rise) for _, base, rise in slopes]
     if is_less(turns[1], turns[0]):

@@ -2,7 +2,7 @@
 
 from sevenruns.asking import ask_quotient
 from sevenruns.kindends import ends_by
-from sevenruns.kindthings import ask_first_kind, ask_kind_box, value_by
+from sevenruns.kindthings import ask_kind_box, value_by
 from sevenruns.reckoning import added, divided, is_less, multiplied, taken_off
 
 
@@ -10,7 +10,6 @@ def point_with(kind, box, quotient):
     """A point of the box, at most one entry no end of its side, with this value of the kind; None if there is none."""
     ask_kind_box(kind, box)
     ask_quotient(quotient)
-    ask_first_kind(kind)
     return point_between(kind, ends_by(kind, box), quotient)
 
 

@@ -1,10 +1,10 @@
 """The checkers of seven runs, and of six."""
 
+from sevenruns.bends import point_paper
 from sevenruns.crosses import cross_told, grid_points, is_three
 from sevenruns.errors import InvalidPaper
 from sevenruns.runs import run_of
 from sevenruns.sevens import seven_bars, six_bars
-from sevenruns.things import is_pair, is_point
 
 
 def lets_seven(program, thing):
@@ -25,11 +25,7 @@ def lets_six(program, thing):
 
 def asked_points(program, thing):
     """The list of the seven points that thing tells; InvalidPaper for what tells none."""
-    if not is_pair(thing):
-        raise InvalidPaper("shape", -1)
-    point, three = thing
-    if not is_point(program[0], point):
-        raise InvalidPaper("point", -1)
+    point, three = point_paper(program, thing)
     if not is_three(program[0], three):
         raise InvalidPaper("three", -1)
     return grid_points(point, three)

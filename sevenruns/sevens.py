@@ -3,7 +3,7 @@
 from sevenruns.asking import ask
 from sevenruns.building import plain_of
 from sevenruns.crosses import are_unlike, cross_forms, steps_told, threes_in
-from sevenruns.formfacts import ask_first, hangs_on
+from sevenruns.formfacts import hangs_on
 from sevenruns.formmaking import form_difference, gathered
 from sevenruns.formruns import standing_point
 from sevenruns.kindmaking import kind_of
@@ -34,7 +34,7 @@ def free_program(results):
 
 def seven_paper(form):
     """None if the form's kind has no knot, else a pair (point, three) that lets_seven accepts."""
-    ask_first(form)
+    # Without a knot all crosses would be reckoned in vain.
     if not knots_of(kind_of(form)):
         return None
     for three in threes_in(hangs_on(form)):

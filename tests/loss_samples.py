@@ -55,6 +55,9 @@ BOX_ONES = (
     (2, (MINUS, ("mul", 2, 0), ("mul", 3, 1), ("mul", 0, 1), ("add", 4, 5), ("add", 6, 1))),
     # The loss stands far up, behind muls by what does not carry the same inputs, nought at 0, 1 and 2.
     (4, (("mul", 0, 1), ("mul", 0, 2), ("add", 4, 5), ("num", Q1), ("num", Q2), ("sub", 3, 7), ("mul", 6, 9), ("add", 10, 1))),
+    # The steps by x0, 1 and x1 + 5, are opposed below -5 alone; those of the next one, 1 and 7 - x1, above 7.
+    (2, (("num", (5, 1)), ("add", 1, 2), ("mul", 0, 3), ("add", 0, 4))),
+    (2, (("num", (7, 1)), ("sub", 2, 1), ("mul", 0, 3), ("add", 4, 0))),
     # A sum doubled thirty times, so there are more copies than could be written out.
     (2, (("mul", 0, 1), ("add", 2, 0)) + tuple(("add", 3 + k, 3 + k) for k in range(30))),
     (1, tuple(("add", k, k) for k in range(38)) + (("sub", 38, 0),)),
@@ -69,7 +72,7 @@ def turning_program(turns, more=()):
     return (3, lines + tuple(more))
 
 
-# Between their turns alone the steps are opposed: no whole number is there.
+# Between their turns alone the steps are opposed; most of them turn between two neighbouring numbers.
 NARROW_ONES = (
     turning_program(((5, 2), (5, 3))),
     turning_program(((5, -3), (5, -2))),
@@ -78,6 +81,9 @@ NARROW_ONES = (
     turning_program(((-3, 1), (-3, 2))),
     turning_program(((10 ** 6, 10 ** 6 + 1), (10 ** 6, 10 ** 6 + 2))),
     turning_program(((10 ** 12, 1), (10 ** 12 - 1, 1))),
+    # Whole numbers between the turns.
+    turning_program(((1, 0), (1, 5))),
+    turning_program(((-1, 3), (-2, -9))),
     # Moved up in x0, by unlike numbers, and times x2 - 1.
     turning_program(((5, 2), (5, 3)), (("add", 13, 1), ("num", Q1), ("sub", 2, 15), ("mul", 14, 16))),
     (3, (("num", (5, 1)), ("mul", 3, 1), ("num", Q2), ("sub", 4, 5), ("mul", 0, 6), ("num", (1000, 1)), ("mul", 8, 1), ("add", 7, 9),

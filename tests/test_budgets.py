@@ -136,10 +136,8 @@ class Pieces(unittest.TestCase):
         self.assertEqual(pieces_of(TIGHT_KIND, BOX, 0), (((-1, 1), (0, 1), (0, 1)), ((0, 1), (0, 1), (2, 1))))
 
     def test_as_told_by_all_corners(self):
-        rng = Random(253)
         counts = {}
-        for kind, box in boxed_kinds(254, many=200):
-            which = rng.randrange(len(box))
+        for kind, box, which in [(kind, box, which) for kind, box in boxed_kinds(254) for which in range(len(box))]:
             pieces = pieces_of(kind=kind, box=box, which=which)
             counts[len(pieces)] = counts.get(len(pieces), 0) + 1
             lines = lines_slowly(kind, box, which)
@@ -173,6 +171,7 @@ class Pieces(unittest.TestCase):
         # Three slopes: at the near end two lines meet, of which the one that goes up counts.
         knot = ("first", Q0, Q1, PAIRS_KIND[3])
         self.assertEqual(pieces_of(knot, (UNIT, (Q0, Q1), (Q0, Q1)), 0), ((Q0, Q1, Q2),))
+        self.assertEqual(pieces_of(knot, (((-2, 1), Q0), UNIT, UNIT), 0), (((-2, 1), Q0, Q0), ((-1, 2), Q0, Q2)))
         self.assertEqual(pieces_of(valley, ((Q0, Q0), ((-1, 1), Q1)), 0), ((Q0, Q0, Q1),))
         self.assertEqual(pieces_of(("first", Q0, Q1, 0), ((Q2, Q2),), 0), ((Q2, Q2, Q1),))
 

@@ -92,7 +92,9 @@ class KindChecker(unittest.TestCase):
         terms = PAIRS_TREE[2]
         for sons in (None, (), (0, 1), [0, 1, 2], 3):
             self.refused_tree(("knot", sons, terms), "rows")
-        for wrong in (None, (), list(terms), terms[::-1], terms + terms[2:], terms[:2] + (((1, 2), 0),), (((0, 1), 2), ((0, 2), 2), ((1, 2), 2)),
+        for tree in (("knot", (0, 1), (((0, 1), 1),)), ("knot", (0, 1), (((0,), 1), ((1,), 2))), ("knot", (0,), (((0,), 1),)), ("knot", (), ())):
+            self.refused_tree(tree, "rows")
+        for wrong in (None, (), list(terms), terms[::-1], terms + terms[2:], (terms[1], terms[0], terms[2]), terms[:1] + terms, terms[:2] + (((1, 2), 0),), (((0, 1), 2), ((0, 2), 2), ((1, 2), 2)),
                       (((0, 1), -1),) + terms[1:], ((), 1) + terms, (((), 1),) + terms, terms + (((1, 3), 1),), terms[:2] + (((2, 1), 1),),
                       terms[:2] + (((1, 1), 1),), terms[:2] + (((1, 2), True),), terms[:2] + (((1, 2), Q1),), terms[:2] + (((1, 2),),),
                       terms[:2] + ([(1, 2), 1],), terms[:2] + (([1, 2], 1),), (((0, True), 1),) + terms[1:], terms[:2] + ("ab",)):

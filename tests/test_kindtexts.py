@@ -53,7 +53,7 @@ SPOILT = (
     ("first 0 1 knot 3 in 0 in 1 in 2 0", 0), ("first 0 1 knot 3 in 0 in 1 in 2 1 3 0 1 2 1", 0), ("first 0 1 knot 3 in 0 in 1 in 2 1 0 1", 0),
     ("first 0 1 knot 3 in 0 in 1 in 2 3 2 0 1 1 2 0 2 1 2 1 3 1", 0), ("first 0 1 knot 3 in 0 in 1 in 2 3 2 1 0 1 2 0 2 1 2 1 2 1", 0),
     # A text that is of its sort, but far too deep for a kind.
-    ("first 0 1 " + "sum 1 1 " * 480 + "in 0", 0), ("first 0 1 " + "product 1 0 " * 300 + "in 0", 0), ("first 0 1 " + "knot 1 " * 500, 1003),
+    ("first 0 1 " + "sum 1 1 " * 498 + "in 0", 0), ("first 0 1 " + "product 1 0 " * 330 + "in 0", 0), ("first 0 1 " + "knot 1 " * 500, 1003),
     ("first 0 1 " + "sum 2 1 in 0 1 " * 200 + "in 0", 0),
     # Bent: read_form's field and 1.
     ("bent", 1), ("bent ", 1), ("bent 2", 1), ("bent 2:", 2), ("bent x: 0", 1), ("bent 02: 0", 1), ("bent 2: 1 x1 + 1 x0", 6), ("bent 2: 1 x0 x0 ", 5),

@@ -123,6 +123,35 @@ class Language(unittest.TestCase):
             top = [entry for part in tree.body for entry in self.names_of(part)] + imported(tree)
             self.assertEqual(len(top), len(set(top)), name)
 
+    def test_tables_are_only_read(self):
+        for name, tree in TREES.items():
+            tables = [part.targets[0].id for part in tree.body
+                      if isinstance(part, ast.Assign) and isinstance(part.value, (ast.Dict, ast.List))]
+            let = [node.value for node in ast.walk(tree) if isinstance(node, ast.Subscript)]
+            let += [right for node in ast.walk(tree) if isinstance(node, ast.Compare) for right in node.comparators]
+            for node in ast.walk(tree):
+                if isinstance(node, ast.Name) and isinstance(node.ctx, ast.Load) and node.id in tables:
+                    self.assertIn(node, let, (name, node.lineno))
+                if isinstance(node, ast.ImportFrom) and node.module not in LIBRARY:
+                    other = TREES[node.module.split(".")[1]]
+                    barred = [part.targets[0].id for part in other.body
+                              if isinstance(part, ast.Assign) and isinstance(part.value, (ast.Dict, ast.List))]
+                    # None is read in another file but for two.
+                    self.assertFalse([alias.name for alias in node.names if alias.name in barred and alias.name != "LENGTHS"], name)
+
+    def test_names_in_comprehensions(self):
+        kinds = (ast.ListComp, ast.SetComp, ast.DictComp, ast.GeneratorExp)
+        for name, function in nodes(ast.FunctionDef):
+            outer = [node for node in ast.walk(function) if isinstance(node, kinds)]
+            inner = [node for part in outer for node in ast.walk(part) if isinstance(node, kinds) and node is not part]
+            bound = [node.arg for node in ast.walk(function.args) if isinstance(node, ast.arg)]
+            own = [node for part in outer for node in ast.walk(part) if isinstance(node, ast.Name)]
+            bound += [node.id for node in ast.walk(function)
+                      if isinstance(node, ast.Name) and isinstance(node.ctx, ast.Store) and node not in own]
+            for part in inner:
+                targets = [node.id for loop in part.generators for node in ast.walk(loop.target) if isinstance(node, ast.Name)]
+                self.assertFalse([entry for entry in targets if entry in bound and entry != "_"], (name, part.lineno))
+
     def test_statements_and_signs(self):
         for name, tree in TREES.items():
             for node in ast.walk(tree):
