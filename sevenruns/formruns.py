@@ -58,16 +58,14 @@ def step_by(form, which):
     return gathered(form[0], [(without(bundle, which), own) for bundle, own in form[1] if which in bundle])
 
 
-def standing_point(size, forms, free):
-    """A point of numbers, nought at the inputs in free, such that no form is nought with the others in their places.
+def standing_point(size, forms):
+    """A point of numbers at which none of the forms, which are not nought, has the value nought.
 
-    No form is nought as it is; each number is the least one, one input after the other."""
+    Each number is the least one that lets the forms stand, one input after the other."""
     point = []
     for which in range(size):
-        number = NOUGHT
-        if which not in free:
-            number = standing_number(forms, which)
-            forms = [form_at(form, which, number) for form in forms]
+        number = standing_number(forms, which)
+        forms = [form_at(form, which, number) for form in forms]
         point.append(number)
     return tuple(point)
 

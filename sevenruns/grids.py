@@ -23,7 +23,7 @@ def grid_paper(form):
         return None
     most = max([len(sons) for sons in knots])
     lot = tuple(son[0] for son in [sons for sons in knots if len(sons) == most][0])
-    return (standing_point(form[0], parting_forms(form, lot), ()), lot)
+    return (standing_point(form[0], parting_forms(form, lot)), lot)
 
 
 def lots_between(lot):

@@ -103,7 +103,7 @@ def lossy_box(losing, fault, whole):
 
 def growing_box(losing, which):
     """The box for an input of which several copies are multiplied: the told span outgrows the true one."""
-    box = point_box(standing_point(losing.size, losing.factor_forms(), (which,)))
+    box = point_box(standing_point(losing.size, losing.factor_forms()))
     far = ONE
     while not losing.loses_on(with_side(box, which, (NOUGHT, far))):
         far = added(far, far)
@@ -121,7 +121,7 @@ def sum_box(losing, k, whole):
             if ratio is None:
                 return turning_box(losing, forms, which, whole)
             if is_less(ratio, NOUGHT):
-                point = standing_point(losing.size, losing.factor_forms() + steps[:1], (which,))
+                point = standing_point(losing.size, losing.factor_forms() + steps[:1])
                 return with_side(point_box(point), which, UNIT)
 
 
@@ -130,7 +130,7 @@ def turning_box(losing, forms, which, whole):
 
     Where one step is above nought and the other one below, the told span is too wide."""
     beside, spread = turning_input(forms, which)
-    point = standing_point(losing.size, losing.factor_forms() + [spread], (which, beside))
+    point = standing_point(losing.size, losing.factor_forms() + [spread])
     slopes = [slopes_at(form, point, which, beside) for form in forms]
     box = point_box(point)
     number = opposing_number(slopes, whole)

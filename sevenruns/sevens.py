@@ -41,7 +41,7 @@ def seven_paper(form):
         cross = cross_forms(form, three)
         if are_unlike(cross):
             spreads = [form_difference(cross[one], cross[other]) for one, other in ((0, 1), (0, 2), (1, 2))]
-            return (standing_point(form[0], spreads, ()), three)
+            return (standing_point(form[0], spreads), three)
 
 
 def do_bar(alike, unlike):
