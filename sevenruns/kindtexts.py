@@ -5,7 +5,7 @@ from sevenruns.errors import InvalidText
 from sevenruns.formtexts import form_in, form_line
 from sevenruns.kindthings import is_kind
 from sevenruns.plaintexts import quotient_word
-from sevenruns.words import number_in, quotient_in
+from sevenruns.words import number_in, quotient_in, whole_in
 
 # What follows the word of a kind.
 KIND_FIELDS = {"bare": ("quotient",), "first": ("quotient", "quotient", "tree"), "bent": ()}
@@ -102,12 +102,6 @@ def value_in(sort, fields, at):
     if value is None:
         raise InvalidText(0, at)
     return value
-
-
-def whole_in(field):
-    """The integer that is written so, else None."""
-    quotient = quotient_in(field)
-    return quotient[0] if quotient is not None and quotient[1] == 1 else None
 
 
 def wanted_behind(sort, value):

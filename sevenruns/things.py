@@ -13,6 +13,11 @@ def is_number(thing):
     return is_integer(thing) and thing >= 0
 
 
+def is_positive(thing):
+    """True if thing is an integer of at least 1."""
+    return is_integer(thing) and thing >= 1
+
+
 def is_pair(thing):
     """True if thing is a tuple of two values."""
     return isinstance(thing, tuple) and len(thing) == 2

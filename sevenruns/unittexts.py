@@ -3,8 +3,7 @@
 from sevenruns.asking import ask_text
 from sevenruns.errors import InvalidText
 from sevenruns.plaintexts import box_line, line_words, span_word
-from sevenruns.unitthings import is_name
-from sevenruns.words import number_in, quotient_in, span_in
+from sevenruns.rowfields import row_values
 
 LINE_WORDS = ("num", "add", "sub", "mul", "call")
 
@@ -24,11 +23,11 @@ SORTS = {
     "unit": ("name",),
     "def": ("name", "span"),
     "num": ("quotient",),
-    "add": ("place", "place"),
-    "sub": ("place", "place"),
-    "mul": ("place", "place"),
-    "call": ("name", "name", "place"),
-    "keep": ("place", "span"),
+    "add": ("number", "number"),
+    "sub": ("number", "number"),
+    "mul": ("number", "number"),
+    "call": ("name", "name", "number"),
+    "keep": ("number", "span"),
     "done": (),
     "end": (),
 }
@@ -89,7 +88,7 @@ class UnitReader:
         word = fields[0]
         if word not in BEHIND[self.last]:
             raise InvalidText(at, 0)
-        values = row_values(at, fields)
+        values = row_values(at, fields, SORTS[word], word in OPEN_ENDED)
         if not self.in_sequence(word, values):
             raise InvalidText(at, 0)
         self.store(word, values)
@@ -131,29 +130,3 @@ def handed_places(word, values):
     if word == "call":
         return values[2:]
     return values if word in ("add", "sub", "mul") else []
-
-
-def row_values(at, fields):
-    """The list of the values behind the first word; InvalidText for the first field that is not of its sort."""
-    word = fields[0]
-    sorts = SORTS[word]
-    values = []
-    for k in range(1, len(fields)):
-        if k > len(sorts) and word not in OPEN_ENDED:
-            raise InvalidText(at, k)
-        value = value_in(sorts[min(k, len(sorts)) - 1], fields[k])
-        if value is None:
-            raise InvalidText(at, k)
-        values.append(value)
-    if len(values) < len(sorts):
-        raise InvalidText(at, len(fields))
-    return values
-
-
-def value_in(sort, field):
-    """The value of this sort that the field tells, else None."""
-    if sort == "name":
-        return field if is_name(field) else None
-    if sort == "place":
-        return number_in(field)
-    return quotient_in(field) if sort == "quotient" else span_in(field)

@@ -102,6 +102,21 @@ def row_named(rows, name):
     return None
 
 
+def with_row(rows, row):
+    """The rows, ascending by their first entries, with the row added, or in the place of that with its first entry."""
+    return by_names([own for own in rows if own[0] != row[0]] + [row])
+
+
+def without_row(rows, name):
+    """The rows without the one that begins with the name."""
+    return tuple(row for row in rows if row[0] != name)
+
+
+def by_names(rows):
+    """The tuple of the rows, ascending by their first entries."""
+    return tuple(sorted(rows, key=lambda row: row[0]))
+
+
 def function_in(units, unit, function):
     """The function of this name in the unit of that name, a quadruple."""
     held = row_named(units, unit)

@@ -1,4 +1,4 @@
-"""Words of texts read: numbers, quotients and spans, as they are written and not otherwise."""
+"""Words of texts read: numbers, quotients, integers and spans, as they are written and not otherwise."""
 
 from math import gcd
 
@@ -28,6 +28,12 @@ def quotient_in(word):
     if word.startswith("-"):
         return (-top, bottom) if top else None
     return (top, bottom)
+
+
+def whole_in(word):
+    """The integer that is written so, else None."""
+    quotient = quotient_in(word)
+    return quotient[0] if quotient is not None and quotient[1] == 1 else None
 
 
 def span_in(word):

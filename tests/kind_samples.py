@@ -7,6 +7,7 @@ from sevenruns.formfacts import hangs_on
 from sevenruns.forms import bare_form, form_from, form_plus, form_scaled, form_times, input_form
 from sevenruns.formruns import step_of, step_two
 from sevenruns.formtexts import read_form
+from sevenruns.kindmaking import kind_of
 from tests.samples import BENT, NOTHINGS, Q0, Q1, Q2, UNIT, frac, quot
 
 HALF, MINUS = (1, 2), (-1, 1)
@@ -210,3 +211,37 @@ def some_box(rng, size):
             ends[1] = ends[0]
         sides.append((quot(ends[0]), quot(ends[1])))
     return tuple(sides)
+
+
+def bent_form(rng, size):
+    """A form with few terms, often not of first degree."""
+    bundles = [tuple(rng.randrange(size) for _ in range(rng.randint(0, 3))) for _ in range(rng.randint(1, 4))]
+    return form_from(size, *((bundle, rng.choice((Q1, MINUS, Q2, HALF))) for bundle in bundles))
+
+
+def some_form(rng, size):
+    """A form of this size at most: bare, bent or of first degree."""
+    chance = rng.random()
+    if chance < 0.1:
+        return bare_form(size, rng.choice((Q0, Q1, (-3, 2))))
+    return bent_form(rng, size) if chance < 0.3 else random_structured(rng, most=size)
+
+
+def some_kind(rng, size):
+    return kind_of(some_form(rng, size))
+
+
+def replaced_slowly(form, size, forms):
+    """The form with forms of this size in the places of its inputs, multiplied out term by term."""
+    found = bare_form(size, Q0)
+    for bundle, quotient in form[1]:
+        term = bare_form(size, quotient)
+        for which in bundle:
+            term = form_times(term, forms[which])
+        found = form_plus(found, term)
+    return found
+
+
+def renamed_slowly(form, size, places):
+    """The form of this size in which each input i is called places[i]."""
+    return form_from(size, *((tuple(places[which] for which in bundle), quotient) for bundle, quotient in form[1]))

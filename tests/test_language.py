@@ -11,7 +11,7 @@ FILES = {path.stem: path.read_text() for path in sorted(PACKAGE.glob("*.py"))}
 TREES = {name: ast.parse(text) for name, text in FILES.items()}
 LIBRARY = {"math": ("gcd", "lcm", "isqrt", "comb", "perm", "factorial")}
 BUILTINS = ("len", "range", "enumerate", "zip", "min", "max", "sum", "abs", "sorted", "reversed", "int", "str", "bool", "list",
-            "tuple", "dict", "set", "isinstance", "ord", "repr", "any", "all", "divmod", "ValueError")
+            "tuple", "dict", "set", "isinstance", "ord", "repr", "any", "all", "divmod", "ValueError", "super")
 METHODS = """append clear copy count endswith extend find get index insert isalnum isalpha isdigit islower isspace isupper
 items join keys ljust lower lstrip partition pop remove replace reverse rfind rjust rpartition rsplit rstrip setdefault split
 splitlines startswith strip update upper values zfill bit_length removeprefix removesuffix add discard""".split()
@@ -26,7 +26,9 @@ SPECIAL = ("__init__", "__eq__", "__len__")
 NODES = """Module FunctionDef arguments arg ClassDef Return Assign AugAssign For While If Raise ImportFrom alias Expr Pass Break
 Continue BoolOp And Or BinOp Add Sub Mult FloorDiv Mod Pow LShift RShift BitOr BitXor BitAnd UnaryOp Not USub Invert IfExp Dict
 Set ListComp SetComp DictComp GeneratorExp Yield Compare Eq NotEq Lt LtE Gt GtE Is IsNot In NotIn Call FormattedValue JoinedStr
-Constant Attribute Subscript Starred Name List Tuple Slice Load Store comprehension keyword Lambda""".split()
+Constant Attribute Subscript Starred Name List Tuple Slice Load Store comprehension keyword Lambda Delete Del""".split()
+# The two that the interface asks for.
+DEFAULTS = {"do_all": [False], "undo": [1]}
 LAZY = ("zip", "enumerate", "reversed", "range", "items", "keys", "values")
 CONSUMERS = ("list", "tuple", "dict", "sorted", "sum", "any", "all", "enumerate", "zip", "min", "max", "join")
 
@@ -222,6 +224,12 @@ class Language(unittest.TestCase):
             self.assertTrue(all(entry in SPECIAL for entry in methods if entry.startswith("__")), (name, part.name))
             self.assertEqual(len(methods), len(set(methods)))
 
+    def test_super_and_del(self):
+        found = [(name, ast.unparse(call)) for name, call in nodes(ast.Call) if "super" in ast.unparse(call.func)]
+        self.assertEqual(sorted(found), [("live", "super()"), ("live", "super().__init__(units)")])
+        for name, node in nodes(ast.Delete):
+            self.assertTrue(all(isinstance(target, ast.Subscript) for target in node.targets), name)
+
     def test_generator_expressions(self):
         inner = [node for _, call in nodes(ast.Call) for node in call.args
                  if called_name(call) in ("tuple", "list", "dict", "join") and isinstance(node, ast.GeneratorExp)]
@@ -255,7 +263,8 @@ class Language(unittest.TestCase):
 
     def test_defaults_and_stars(self):
         for name, node in nodes(ast.FunctionDef):
-            self.assertFalse(node.args.defaults or node.args.kwonlyargs or node.args.kwarg or node.args.posonlyargs, name)
+            self.assertEqual([part.value for part in node.args.defaults], DEFAULTS.get(node.name, []), name)
+            self.assertFalse(node.args.kwonlyargs or node.args.kwarg or node.args.posonlyargs, name)
             self.assertFalse(node.returns, name)
         for name, call in nodes(ast.Call):
             for part in call.args:
