@@ -17,7 +17,7 @@ def run_code(code, point):
 
 def trace_code(code, point):
     """The tuple of the values of the rows ahead of the first that does not fit, of all rows if all fit."""
-    ask_whole_point(code[0], point)
+    ask(is_whole_point(code[0], point), "point")
     values = []
     for row in code[2]:
         value = row_value(row, point, values)
@@ -25,11 +25,6 @@ def trace_code(code, point):
             break
         values.append(value)
     return tuple(values)
-
-
-def ask_whole_point(size, point):
-    """Refuses point unless it has one whole quotient for each input."""
-    ask(is_whole_point(size, point), "point")
 
 
 def is_whole_point(size, thing):

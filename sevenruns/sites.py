@@ -2,7 +2,6 @@
 
 from sevenruns.asking import ask
 from sevenruns.judging import judged
-from sevenruns.kindthings import ask_first_kind
 from sevenruns.showing import shown
 from sevenruns.things import is_input, is_integer
 from sevenruns.unitkinds import kind_table, kinds_in
@@ -90,5 +89,4 @@ def shown_at(units, unit, own, place, span):
     kind = kinds_in(own, kind_table(units))[place]
     if kind is None:
         ask_not_open(units, unit, own[0])
-    ask_first_kind(kind)
     return shown(kind, own[1], ("inside", span))

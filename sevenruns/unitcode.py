@@ -4,7 +4,7 @@ from sevenruns.asking import ask
 from sevenruns.coding import is_whole_box, made_code
 from sevenruns.errors import Broken
 from sevenruns.kindthings import ask_first_kind
-from sevenruns.machine import ask_whole_point, run_code
+from sevenruns.machine import run_code
 from sevenruns.sites import word_at
 from sevenruns.spans import holds
 from sevenruns.unitkinds import kind_table, kinds_in
@@ -30,7 +30,6 @@ def unit_code(units, unit, function):
 def run_unit_code(made, point):
     """The value of such a code at the point; Broken for the first keep that does not hold."""
     code, keeps = made
-    ask_whole_point(code[0], point)
     for place, span, beside in keeps:
         if not holds(span, run_code(beside, point)):
             raise Broken(place)

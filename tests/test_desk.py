@@ -13,7 +13,7 @@ from tests.live_samples import random_event, reason_slowly
 from tests.samples import NO_TEXTS, NOTHINGS, Q1, UNIT, Wrong, check_raises, check_refusals
 from tests.test_eventtexts import FIRST_ROWS
 from tests.test_live import told
-from tests.unit_samples import BOTH, HAND_UNITS, LEVEL, MIXED, OPEN, UNITS, random_units
+from tests.unit_samples import BOTH, HAND_UNITS, LEVEL, MIXED, OPEN, UNITS, fun, random_units, unit, units
 
 GREAT = "9" * 40
 SIDE = ("side", "pump", "flow", 0, ((1, 2), Q1))
@@ -71,6 +71,13 @@ class Desks(unittest.TestCase):
         for text, field in (("kind no f", 1), ("kind b no", 2), ("site b h 0 0", 4), ("site b i 0 0", 4)):
             self.refused(live, text, field)
         self.answers(LiveUnits((LEVEL,)), ("kind tank level", "open"), ("keep tank level 2", "sometimes"), ("keep tank level 3", "open"), ("sound", "no"))
+
+    def test_names_that_are_words(self):
+        rows = units(unit("day", fun("kind", 1, ("add", 0, 0)), fun("sound", 1, ("add", 0, 0))), unit("site", fun("keep", 1, ("call", "day", "kind", (0,)), keeps=((1, UNIT),))))
+        live = LiveUnits(rows)
+        self.answers(live, ("kind day kind", "first 0 2 in 0"), ("kind day sound", "first 0 2 in 0"), ("keep site keep 1", "sometimes"), ("site site keep 0 0", "always"),
+                     ("sound", "no"), ("remove day sound", "done"), ("drop day", "done"), ("anew", "site keep"))
+        self.assertEqual(live.log(), (("remove", "day", "sound"), ("drop", "day")))
 
     def test_sound(self):
         self.answers(LiveUnits(()), ("sound", "yes"), ("anew", "-"))

@@ -18,6 +18,10 @@ TEXTS = (
     ("remove pump flow", ("remove", "pump", "flow")), ("day", ("day",)), ("side pump flow 0 1/2:1", ("side", "pump", "flow", 0, ((1, 2), Q1))),
     ("side a b 12 -3/2:-3/2", ("side", "a", "b", 12, ((-3, 2), (-3, 2)))), (f"side a b {GREAT} -{GREAT}:1/{GREAT}", ("side", "a", "b", GREAT, ((-GREAT, 1), (1, GREAT)))),
     ("define pump\ndef flow 0:1\nadd 0 0\ndone", ("define", "pump", ("flow", (UNIT,), (("add", 0, 0),), ()))),
+    # Names that are words of events, too.
+    ("drop put", ("drop", "put")), ("drop define", ("drop", "define")), ("remove day put", ("remove", "day", "put")), ("remove side define", ("remove", "side", "define")),
+    ("define day\ndef done 0:1\nadd 0 0\ndone", ("define", "day", ("done", (UNIT,), (("add", 0, 0),), ()))),
+    ("put\nunit end\ndef end 0:1\nadd 0 0\ndone\nend", ("put", ("end", (("end", (UNIT,), (("add", 0, 0),), ()),)))),
     ("define wide\n" + WIDE_TEXT[len("unit wide\n"):WIDE_TEXT.index("\ndef ab")], ("define", "wide", WIDE[1][0])),
 )
 # First rows of events that do not fit, and the field.

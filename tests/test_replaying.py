@@ -77,6 +77,11 @@ class Days(unittest.TestCase):
                           ((SIDE, DAY, SIDE, DAY), (0, 0)), ((("put", unit("a", LEAK, FLOW)), DROP_PUMP, DAY, DAY), (3, 0))):
             self.assertEqual(days_of(units=BOTH, log=log), days)
 
+    def test_units_and_functions_called_day(self):
+        rows = (unit("day", LEAK, ("day", *FLOW[1:])),)
+        log = (("define", "day", FLOW), ("remove", "day", "day"), DAY, ("put", unit("a", LEAK)), ("drop", "day"), DAY)
+        self.assertEqual(days_of(rows, log), (1, 1))
+
     def test_as_slowly(self):
         rng = Random(901)
         for rows in [BOTH, OPEN, ()] * 8 + [random_units(rng) for _ in range(30)]:

@@ -16,6 +16,9 @@ BENT_LATE = (2, 1, (("in", 0, 0, 1), ("in", 1, 0, 1), ("mul", 0, 1, 1), ("mul", 
 BENT_BOTH = (2, 1, (("in", 1, 0, 1), ("in", 0, 0, 1), ("mul", 0, 1, 1), ("mul", 2, 2, 1)))
 NOUGHT_SQUARE = (1, 1, (("in", 0, 0, 3), ("sub", 0, 0, 3), ("mul", 0, 1, 3), ("mul", 2, 0, 3), ("add", 3, 0, 3)))
 
+# Numbers that are nought together: what they are multiplied with is not bent.
+NOUGHT_NUMBERS = (1, 3, (("num", 4, 0, 9), ("num", 2, 0, 9), ("mul", 1, 1, 9), ("sub", 0, 2, 9), ("in", 0, 0, 9), ("mul", 3, 4, 9), ("mul", 5, 4, 9), ("add", 6, 0, 9)))
+
 
 def spans_slowly(code, box):
     """For each row the least and the greatest value at all points of whole quotients in the box."""
@@ -35,6 +38,7 @@ class RowSpans(unittest.TestCase):
         self.assertEqual(row_spans(code=LOOSE, box=LOOSE_BOX), ((-7, -7), (-3, -1), (0, 0), (-3, -1), (-6, -2), (0, 0), (1, 5), (7, 21), (-2, 1), (-1, 6)))
         self.assertEqual(row_spans(CODE, whole_box_of((2, 2), (-1, -1))), ((2, 2), (-1, -1), (-2, -2), (-4, -4)))
         self.assertEqual(row_spans(NOUGHT_SQUARE, whole_box_of((-2, 5))), ((-2, 5), (0, 0), (0, 0), (0, 0), (-2, 5)))
+        self.assertEqual(row_spans(NOUGHT_NUMBERS, whole_box_of((-2, 5))), ((4, 4), (2, 2), (4, 4), (0, 0), (-2, 5), (0, 0), (0, 0), (4, 4)))
 
     def test_as_at_all_points(self):
         rng = Random(801)
